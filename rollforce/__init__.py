@@ -1,0 +1,1 @@
+"""Forces: locks, swells, and the best of them."""
