@@ -3,6 +3,8 @@
 from rollforce.refusals import TextFault
 from rollforce.scanner import BLANK, LINE_END, Scanner
 
+MOST_FORCE = 127
+
 # The first lines of a bar's text: a word, then the lowest and the highest of each number.
 HEAD = (
     ("bar", ((1, 128), (0, 128))),
@@ -34,7 +36,11 @@ class Bar:
     def __init__(self, numbers, tracks):
         self.numbers = numbers
         self.width = numbers[0]
+        self.split_key = numbers[1]
         self.tail = numbers[2]
+        self.base = numbers[3]
+        self.step = numbers[4]
+        self.accent = numbers[5]
         self.most = numbers[6]
         self.rise = numbers[7]
         self.fall = numbers[8]
@@ -46,6 +52,15 @@ class Bar:
         if track is None:
             return 0
         return 1 << track
+
+    def lock_force(self, lock_value):
+        """What the base and a lock value give, not yet held at the most: swell and accent may come to it first."""
+        return self.base + self.step * lock_value
+
+    def side_of_key(self, key):
+        if key < self.split_key:
+            return 0
+        return 1
 
 
 def read_bar(text):

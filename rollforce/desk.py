@@ -1,8 +1,11 @@
 """The calls on one object, and their answers."""
 
 from rollforce.bars import read_bar
-from rollforce.refusals import DeskFull, NoBar, NoStrip, OtherWidth, OutOfRange, TextFault, TextTooLong, UnknownCall
+from rollforce.plans import best_plan, read_wishes
+from rollforce.refusals import DeskFull, NoBar, NoStrip, OtherWidth, OutOfRange, RowsOutOfOrder
+from rollforce.refusals import TextFault, TextTooLong, UnknownCall
 from rollforce.sides import sides_behind
+from rollforce.strikes import list_strikes
 from rollforce.strips import read_strip
 
 MOST_BYTES = 65536
@@ -11,6 +14,9 @@ MOST_STRIPS = 32
 CALL_BAR = 1
 CALL_READ = 2
 CALL_STATE = 3
+CALL_FORCE = 4
+CALL_STRIKES = 5
+CALL_PLAN = 6
 
 
 class Desk:
@@ -33,9 +39,12 @@ class Desk:
         self.strips.append(strip)
         return told(len(self.strips) - 1, [])
 
-    def find_strip(self, number):
+    def check_bar(self):
         if self.bar is None:
             raise NoBar()
+
+    def find_strip(self, number):
+        self.check_bar()
         if number >= len(self.strips):
             raise NoStrip()
         strip = self.strips[number]
@@ -43,12 +52,34 @@ class Desk:
             raise OtherWidth()
         return strip
 
-    def tell_state(self, number, row):
-        strip = self.find_strip(number)
+    def check_row(self, strip, row):
         if row > len(strip.rows) + self.bar.tail:
             raise OutOfRange()
+
+    def tell_state(self, number, row):
+        strip = self.find_strip(number)
+        self.check_row(strip, row)
         sides = sides_behind(self.bar, strip, row)
         return told(0, [side.lock_value for side in sides] + [side.swell for side in sides])
+
+    def tell_force(self, number, row, which):
+        strip = self.find_strip(number)
+        self.check_row(strip, row)
+        if which > 1:
+            raise OutOfRange()
+        side = sides_behind(self.bar, strip, row)[which]
+        return told(side.force_by(strip.sounding(row, self.bar.tail)), [])
+
+    def tell_strikes(self, number):
+        strip = self.find_strip(number)
+        listed = list_strikes(self.bar, strip)
+        return told(len(listed) // 3, listed)
+
+    def tell_plan(self, numbers):
+        self.check_bar()
+        wishes = read_wishes(numbers)
+        plan = best_plan(self.bar, wishes)
+        return told(plan.cost, [plan.value_for(wish) for wish in wishes])
 
 
 class Feed:
@@ -66,11 +97,14 @@ class Feed:
         self.place += 1
         return number
 
+    def take_some(self, count):
+        some = self.calls[self.place:self.place + count]
+        self.place += count
+        return some
+
     def take_row(self):
         count = self.take()
-        row = self.calls[self.place:self.place + count]
-        self.place += count
-        return row
+        return self.take_some(count)
 
 
 def check_length(text):
@@ -92,9 +126,15 @@ def carry_out(desk, feed):
     if call == CALL_READ:
         return desk.put_strip(feed.take_row())
     if call == CALL_STATE:
-        number = feed.take()
-        row = feed.take()
-        return desk.tell_state(number, row)
+        numbers = feed.take_some(2)
+        return desk.tell_state(numbers[0], numbers[1])
+    if call == CALL_FORCE:
+        numbers = feed.take_some(3)
+        return desk.tell_force(numbers[0], numbers[1], numbers[2])
+    if call == CALL_STRIKES:
+        return desk.tell_strikes(feed.take())
+    if call == CALL_PLAN:
+        return desk.tell_plan(feed.take_row())
     raise UnknownCall()
 
 
@@ -106,6 +146,8 @@ def answer(desk, feed):
     except TextTooLong:
         return told(-2, [])
     except OtherWidth:
+        return told(-3, [])
+    except RowsOutOfOrder:
         return told(-3, [])
     except NoStrip:
         return told(-4, [])

@@ -32,5 +32,9 @@ class OutOfRange(Exception):
     """A number is above what it may be."""
 
 
+class RowsOutOfOrder(Exception):
+    """A wish's row is below that of the wish before."""
+
+
 class UnknownCall(Exception):
     """No call has this number; it is no refusal, for the document asks for no answer."""

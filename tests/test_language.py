@@ -121,3 +121,43 @@ class Language(unittest.TestCase):
                     self.assertIn(node.func.attr, own | set(METHODS))
                 if isinstance(node, ast.ExceptHandler):
                     self.assertIn(node.type.id, own)
+
+    def test_imports_come_from_the_file_that_defines_the_name_and_go_one_way(self):
+        drawn = {}
+        for name, tree in TREES.items():
+            drawn[name] = set()
+            for node in ast.walk(tree):
+                if isinstance(node, ast.ImportFrom):
+                    source = node.module.split(".")[1] + ".py"
+                    drawn[name].add(source)
+                    top = TREES[source].body
+                    defined = {part.name for part in top if isinstance(part, (ast.FunctionDef, ast.ClassDef))}
+                    defined |= {target.id for part in top if isinstance(part, ast.Assign) for target in part.targets}
+                    self.assertLessEqual({alias.name for alias in node.names}, defined)
+                    self.assertEqual({alias.asname for alias in node.names}, {None})
+        while drawn:
+            free = [name for name in drawn if not drawn[name] & set(drawn)]
+            self.assertNotEqual(free, [], "these files draw from one another: %s" % sorted(drawn))
+            for name in free:
+                del drawn[name]
+
+    def test_is_stands_beside_none_true_and_false_alone(self):
+        for tree in TREES.values():
+            for node in ast.walk(tree):
+                if isinstance(node, ast.Compare) and isinstance(node.ops[0], (ast.Is, ast.IsNot)):
+                    self.assertIn(ast.unparse(node.comparators[0]), ("None", "True", "False"))
+
+    def test_what_is_walked_at_once_is_not_kept(self):
+        for tree in TREES.values():
+            walked = set()
+            for node in ast.walk(tree):
+                if isinstance(node, (ast.For, ast.comprehension)):
+                    walked.add(node.iter)
+                if isinstance(node, ast.Call) and node.args and isinstance(node.func, ast.Name):
+                    if node.func.id in "list tuple dict sorted sum any all enumerate zip min max".split():
+                        walked.add(node.args[0])
+            for node in ast.walk(tree):
+                if isinstance(node, ast.Call):
+                    called = node.func.id if isinstance(node.func, ast.Name) else node.func.attr
+                    if called in "zip enumerate reversed range items keys values".split():
+                        self.assertIn(node, walked)

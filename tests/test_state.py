@@ -3,7 +3,7 @@
 import random
 import unittest
 
-from tests.helper import BAR, STRIP, ask, bar, read, state, stated
+from tests.helper import BAR, STRIP, ask, bar, bar_text, random_case, read, slow_states, state, stated, strip_text
 
 
 def states(bar_text, strip_text, rows):
@@ -11,47 +11,6 @@ def states(bar_text, strip_text, rows):
     given = ask(bar(bar_text), read(strip_text), *[state(0, row) for row in rows])
     assert given[0][0] == 0 and given[1] == [0], given[:2]
     return [answer[2:-1] if answer[0] == 0 else answer for answer in given[2:]]
-
-
-def bar_text(tail, swell, *meanings):
-    lines = ["%d %s" % (track, meaning) for track, meaning in enumerate(meanings)]
-    head = ["bar %d 60" % max(1, len(meanings)), "tail %d" % tail, "force 40 10 20", "swell %d %d %d" % swell]
-    return "".join(line + "\n" for line in head + lines)
-
-
-def strip_text(width, rows):
-    """The text of the strip with these holes, row by row."""
-    runs = []
-    for holes in rows:
-        if runs and runs[-1][1] == holes:
-            runs[-1][0] += 1
-        else:
-            runs.append([1, holes])
-    lines = [" ".join(str(number) for number in [count] + holes) for count, holes in runs]
-    return "".join(line + "\n" for line in ["strip %d" % width] + lines)
-
-
-def slow_states(tail, swell, meanings, rows, last):
-    """The document's steps, word by word, with the holes looked up anew at each row."""
-    most, rise, fall = swell
-    locks = [0, 0]
-    swells = [0, 0]
-    for row in range(last + 1):
-        sounding = set()
-        for holed in range(row - tail, row + 1):
-            if 0 <= holed < len(rows):
-                sounding.update(meanings[track] for track in rows[holed] if track < len(meanings))
-        for side in (0, 1):
-            if "cancel %d" % side in sounding:
-                locks[side] = 0
-            for which, weight in enumerate((1, 2, 4)):
-                if "lock %d %d" % (which, side) in sounding and locks[side] // weight % 2 == 0:
-                    locks[side] += weight
-            change = (rise if "up %d" % side in sounding else 0) - (fall if "down %d" % side in sounding else 0)
-            if "up %d" % side in sounding and "down %d" % side in sounding:
-                change = 0
-            swells[side] = sorted((0, swells[side] + change, most))[1]
-    return locks + swells
 
 
 class StateAnswers(unittest.TestCase):
@@ -132,20 +91,12 @@ class StateAnswers(unittest.TestCase):
 
     def test_bars_and_strips_of_every_shape(self):
         source = random.Random(1)
-        words = ["lock %d %d" % (which, side) for which in range(3) for side in range(2)] + ["key 1", "loud", "end"]
-        words += ["%s %d" % (word, side) for word in ("cancel", "up", "down", "accent") for side in range(2)]
         for attempt in range(60):
-            meanings = source.sample(words, source.randint(1, len(words)))
-            tail = source.choice((0, 1, 2, 3, 15))
-            swell = (source.randint(0, 60), source.randint(0, 20), source.randint(0, 20))
-            rarity = source.choice((2, 6, 20))
-            rows = [[track for track in range(len(meanings)) if source.randrange(rarity) == 0]
-                    for row in range(source.randint(0, 40))]
-            asked = range(len(rows) + tail + 1)
-            expected = [slow_states(tail, swell, meanings, rows, last) for last in asked]
+            case = random_case(source)
+            asked = range(len(case["rows"]) + case["tail"] + 1)
+            expected = [slow_states(case, last) for last in asked]
             with self.subTest(attempt=attempt):
-                given = states(bar_text(tail, swell, *meanings), strip_text(len(meanings), rows), asked)
-                self.assertEqual(given, expected)
+                self.assertEqual(states(case["bar"], case["strip"], asked), expected)
 
 
 class StateRefused(unittest.TestCase):
